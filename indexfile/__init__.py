@@ -1,0 +1,1 @@
+"""Files headings by a house's own code."""
