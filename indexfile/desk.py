@@ -1,8 +1,9 @@
 """Answers calls on one code: the program's interface."""
 
+from indexfile.asking import begins_as, group_of, stretch_of
 from indexfile.callsheet import single_calls
 from indexfile.codebook import Code, RIGHT_THROUGH, Turn, WORD_BY_WORD
-from indexfile.ordering import order_of
+from indexfile.ordering import is_filed, levels_of, levels_of_all, numbers_in_order, order_of
 from indexfile.rulebook import NUMBERS_OF_A_RULE, RuleBook, first_wrong_rule, read_rules
 
 LONGEST_TEXT = 256
@@ -14,6 +15,7 @@ MOST_SPELLINGS = 256
 MOST_TURNS = 64
 MOST_ARTICLES = 32
 MOST_RULES = 1024
+MOST_TEXTS = 4096
 
 
 # A call may put another code in the old one's place, so calls are handed what holds it.
@@ -30,8 +32,8 @@ def has_length(row, most):
     return 1 <= len(row) <= most
 
 
-def is_too_long(text):
-    return len(text) > LONGEST_TEXT
+def has_long_text(texts):
+    return any([len(text) > LONGEST_TEXT for text in texts])
 
 
 def keep_one_more(kept, fresh, most):
@@ -79,9 +81,41 @@ def answer_rules(desk, numbers, rows):
 
 
 def answer_order(desk, numbers, rows):
-    if is_too_long(rows[0]) or is_too_long(rows[1]):
+    if has_long_text(rows):
         return refused(10)
     return [0, order_of(desk.code, rows[0], rows[1])]
+
+
+def answer_begins(desk, numbers, rows):
+    if has_long_text(rows):
+        return refused(10)
+    return [0, 1 if begins_as(desk.code, rows[0], rows[1]) else 0]
+
+
+def answer_group(desk, numbers, rows):
+    if has_long_text(rows):
+        return refused(10)
+    return [0, group_of(desk.code, rows[0])]
+
+
+def answer_file(desk, numbers, rows):
+    if has_long_text(rows):
+        return refused(10)
+    if len(rows) > MOST_TEXTS:
+        return refused(1)
+    return [0] + numbers_in_order(levels_of_all(desk.code, rows))
+
+
+def answer_seek(desk, numbers, rows):
+    texts = rows[1:]
+    if has_long_text(rows):
+        return refused(10)
+    if len(texts) > MOST_TEXTS:
+        return refused(1)
+    levels = levels_of_all(desk.code, texts)
+    if not is_filed(levels):
+        return refused(3)
+    return [0] + stretch_of(desk.code.way, levels_of(desk.code, rows[0]), levels)
 
 
 CALLS = {
@@ -91,6 +125,10 @@ CALLS = {
     4: answer_article,
     5: answer_rules,
     6: answer_order,
+    7: answer_begins,
+    8: answer_group,
+    9: answer_file,
+    10: answer_seek,
 }
 
 

@@ -1,4 +1,8 @@
-"""The order of two texts by a code, with the level at which they part."""
+"""The order of texts by a code, with the level at which two of them part.
+
+A text's levels are its four rows, the first level's row first: so two lists of
+levels stand to one another as their texts do.
+"""
 
 from indexfile.codebook import RIGHT_THROUGH
 from indexfile.filing import file_text
@@ -20,6 +24,10 @@ def levels_of(code, text):
     return [first_level(code.way, filed.words), filed.accents, filed.marks, text]
 
 
+def levels_of_all(code, texts):
+    return [levels_of(code, text) for text in texts]
+
+
 def first_level(way, words):
     if way == RIGHT_THROUGH:
         return joined(words)
@@ -31,3 +39,15 @@ def joined(words):
     for word in words:
         units.extend(word)
     return units
+
+
+# The same texts stay in the order of their numbers: sorted leaves what is equal as it stands.
+def numbers_in_order(levels):
+    return sorted(range(len(levels)), key=lambda number: levels[number])
+
+
+def is_filed(levels):
+    for number in range(1, len(levels)):
+        if levels[number] < levels[number - 1]:
+            return False
+    return True

@@ -41,6 +41,22 @@ def order(one, other):
     return call(6, [], [one, other])
 
 
+def begins(question, text):
+    return call(7, [], [question, text])
+
+
+def group(text):
+    return call(8, [], [text])
+
+
+def file(texts):
+    return call(9, [], texts)
+
+
+def seek(texts, question):
+    return call(10, [], [question] + list(texts))
+
+
 def rule(first, last, kind, weight=0, rise=0, mark=0, accent=0):
     first, last = [ord(end) if isinstance(end, str) else end for end in (first, last)]
     return (first, last, kind, rise, mark, accent, weight)
